@@ -81,18 +81,17 @@ func (n Net) sizeError(inputs int) api.Errno {
 	return api.OK
 }
 
-// inputError returns the first error of Answers.
+// inputError returns the first error of Answers. Those of Answer come ahead for all ranges, so that one whose ends are in
+// the wrong order does not hide a later one that is too great.
 func (n Net) inputError(in []api.Range) api.Errno {
 	if e := n.sizeError(len(in)); e != api.OK {
 		return e
 	}
-	for _, x := range in {
-		switch {
-		case !isSmall(x.Lo) || !isSmall(x.Hi):
-			return api.ErrArg
-		case x.Lo > x.Hi:
-			return api.ErrOrder
-		}
+	switch {
+	case slices.ContainsFunc(in, func(x api.Range) bool { return !isSmall(x.Lo) || !isSmall(x.Hi) }):
+		return api.ErrArg
+	case slices.ContainsFunc(in, func(x api.Range) bool { return x.Lo > x.Hi }):
+		return api.ErrOrder
 	}
 	return api.OK
 }

@@ -327,12 +327,85 @@ func TestInputErrors(t *testing.T) {
 			isTrue(t, "Answer has a zero value", e == api.OK || got == 0)
 		}
 	}
-	// The first range with an error decides.
-	great, order := api.Range{Hi: most + 1}, api.Range{Lo: 1}
-	_, e := fill.Answers(net(1, 0), []api.Range{order, great})
-	isCode(t, "Answers with an order first", e, api.ErrOrder)
-	_, e = fill.Answers(net(1, 0), []api.Range{great, order})
-	isCode(t, "Answers with an argument first", e, api.ErrArg)
+}
+
+// The errors of Answer, for all ranges, come ahead of an order.
+func TestOrderOfInputErrors(t *testing.T) {
+	most := 1 << 16
+	good, order := api.Range{Lo: 1, Hi: 2}, api.Range{Lo: 5, Hi: 3}
+	atLimit := api.Range{Lo: most, Hi: -most}
+	great, least := api.Range{Lo: 70000, Hi: 70000}, api.Range{Lo: -most - 1, Hi: 0}
+	both := api.Range{Lo: most + 1, Hi: 0}
+	for _, c := range []struct {
+		in   []api.Range
+		want api.Errno
+	}{
+		{[]api.Range{good, good, good}, api.OK},
+		{[]api.Range{order, good, great}, api.ErrArg},
+		{[]api.Range{order, great, good}, api.ErrArg},
+		{[]api.Range{great, good, order}, api.ErrArg},
+		{[]api.Range{order, order, least}, api.ErrArg},
+		{[]api.Range{order, good, both}, api.ErrArg},
+		{[]api.Range{atLimit, good, both}, api.ErrArg},
+		{[]api.Range{{Lo: 0, Hi: -1}, {Lo: 0, Hi: most + 1}, good}, api.ErrArg},
+		{[]api.Range{order, good, good}, api.ErrOrder},
+		{[]api.Range{good, good, order}, api.ErrOrder},
+		{[]api.Range{good, atLimit, order}, api.ErrOrder},
+		{[]api.Range{order, great}, api.ErrSize},
+		{[]api.Range{order, order, order, great}, api.ErrSize},
+	} {
+		got, e := fill.Answers(uniform(2, 3, 1, 0), c.in)
+		isCode(t, "Answers", e, c.want)
+		isTrue(t, "Answers has a zero value", e == api.OK || got == api.Range{})
+		_, e = fill.Answers(uniform(2, 3, 1, 31), c.in)
+		isCode(t, "Answers with a net that is none", e, api.ErrArg)
+	}
+}
+
+// slowAnswersError is the error of Answer to all Los, then to all His, and then that of the order of both.
+func slowAnswersError(n fill.Net, in []api.Range) api.Errno {
+	var los, his []int
+	want := api.OK
+	for _, x := range in {
+		los, his = append(los, x.Lo), append(his, x.Hi)
+		if x.Lo > x.Hi {
+			want = api.ErrOrder
+		}
+	}
+	_, lo := fill.Answer(n, los)
+	_, hi := fill.Answer(n, his)
+	return firstOf(lo, hi, want)
+}
+
+func TestAnswersErrorModel(t *testing.T) {
+	r := seeded()
+	seen := map[api.Errno]int{}
+	for range 5000 {
+		n := randomNet(r)
+		in := randomRanges(r, len(n.Weights[0]))
+		for range r.Intn(4) {
+			x := &in[r.Intn(len(in))]
+			switch r.Intn(3) {
+			case 0:
+				x.Lo, x.Hi = x.Hi, x.Lo
+			case 1:
+				x.Lo = extreme(r)
+			case 2:
+				x.Hi = extreme(r)
+			}
+		}
+		if r.Intn(20) == 0 {
+			in = in[1:]
+		}
+		want := slowAnswersError(n, in)
+		seen[want]++
+		got, e := fill.Answers(n, in)
+		isCode(t, "Answers", e, want)
+		isTrue(t, "Answers has a zero value", e == api.OK || got == api.Range{})
+	}
+	for _, e := range []api.Errno{api.OK, api.ErrSize, api.ErrArg, api.ErrOrder} {
+		isTrue(t, "each error of Answers is tried", seen[e] > 50)
+	}
 }
 
 func TestNetsKeepTheirArguments(t *testing.T) {
